@@ -1,0 +1,79 @@
+"""What the tests share: things to ask, and slow definitions written apart from the package."""
+
+import random
+
+# Things of all kinds that fit nothing, to be asked wherever "any thing" may be asked.
+ODD_THINGS = [
+    None, True, False, 0, 1, -1, 10 ** 399, "", "first", "1", "((1,),)", [], [1], [[1]], [(1,)], {}, {"a": 1},
+    {0: (1,)}, (), ((),), ((), (), ()), (None,), (True,), ("1",), ([1],), ({},), ((True,),), ((None,),),
+    (("1",),), (((1,),),), [[[[[None]]]]], ((((((True,),),),),),),
+]
+
+BIG = 987654321012
+
+
+def numbers_table(seed, rows, columns, size):
+    """A table of numbers from -size to size, the same one for the same arguments."""
+    chance = random.Random(seed * 1000003 + rows * 1009 + columns * 13 + size)
+    return tuple(tuple(chance.randint(-size, size) for _ in range(columns)) for _ in range(rows))
+
+
+def summed_table(seed, rows, columns, size):
+    """A table of three rows or more whose last row is the sum of the others."""
+    table = numbers_table(seed, rows - 1, columns, size)
+    return table + (tuple(sum(row[j] for row in table) for j in range(columns)),)
+
+
+def gapped_table(seed, rows, columns, size):
+    """A table with a column of noughts in front and one more behind."""
+    table = numbers_table(seed, rows, columns, size)
+    gaps = (0, columns - 2)
+    return tuple(tuple(0 if j in gaps else number for j, number in enumerate(row)) for row in table)
+
+
+def determinant(rows):
+    """By the first row's numbers, one column struck out at a time."""
+    if not rows:
+        return 1
+    total = 0
+    for j, number in enumerate(rows[0]):
+        rest = [row[:j] + row[j + 1:] for row in rows[1:]]
+        total += (-1) ** j * number * determinant(rest)
+    return total
+
+
+def corner_told(table, rows, columns):
+    return determinant([tuple(table[i][j] for j in columns) for i in rows])
+
+
+def stand_told(table, picked):
+    """The STAND of point 3, each number from its own corner."""
+    rows = [pair[0] for pair in picked]
+    columns = [pair[1] for pair in picked]
+
+    def number_told(i, j):
+        if i not in rows:
+            return 0 if j in columns else corner_told(table, rows + [i], columns + [j])
+        at = rows.index(i)
+        if j in columns[:at] + columns[at + 1:]:
+            return 0
+        return corner_told(table, rows, columns[:at] + [j] + columns[at + 1:])
+
+    numbers = tuple(tuple(number_told(i, j) for j in range(len(table[0]))) for i in range(len(table)))
+    return (tuple(picked), corner_told(table, rows, columns), numbers)
+
+
+def picks_of(table, seed, many):
+    """Some picks of so many rows and columns, not rising as a rule."""
+    chance = random.Random(seed * 31 + many)
+    for _ in range(4):
+        rows = tuple(chance.sample(range(len(table)), many))
+        columns = tuple(chance.sample(range(len(table[0])), many))
+        yield (rows, columns)
+
+
+def just_tuples(thing):
+    """Whether the thing is made of tuples and whole numbers alone, each of just that kind."""
+    if type(thing) is tuple:
+        return all(just_tuples(part) for part in thing)
+    return type(thing) is int
