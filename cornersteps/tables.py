@@ -18,6 +18,11 @@ def is_table(thing):
     return all([is_row(len(first), row) for row in thing])
 
 
+def has_noughts_alone(row):
+    """Whether all numbers of the row are 0."""
+    return all([number == 0 for number in row])
+
+
 def turned(table):
     """The table's columns as rows."""
     return tuple([tuple([row[j] for row in table]) for j in range(len(table[0]))])

@@ -77,3 +77,34 @@ def just_tuples(thing):
     if type(thing) is tuple:
         return all(just_tuples(part) for part in thing)
     return type(thing) is int
+
+
+def random_paper(table, seed, many):
+    """A paper of at most so many steps at any pairs, each stand from its own corners, no step made."""
+    chance = random.Random(seed * 7 + many)
+    stand = stand_told(table, ())
+    paper = [stand]
+    for _ in range(many):
+        picked, _, numbers = stand
+        left = [
+            (i, j) for i in range(len(table)) for j in range(len(table[0]))
+            if i not in [r for r, _ in picked] and j not in [c for _, c in picked] and numbers[i][j] != 0
+        ]
+        if not left:
+            break
+        stand = stand_told(table, picked + (chance.choice(left),))
+        paper.append(stand)
+    return tuple(paper)
+
+
+# Tables of all shapes: one row, one column, square, wide, tall, of noughts, with rows that are sums of others.
+MANY_TABLES = [
+    ((7,),), ((0,),), ((-3,),), ((0, 0), (0, 0)), ((0, -1, 2, 5),), ((3,), (-4,), (BIG,)), ((0,), (0,), (6,)),
+    ((1, 2), (3, 4)), ((0, 1), (1, 0)), ((2, 4), (1, 2)), ((1, 2, 3), (4, 5, 6), (7, 8, 9)),
+    ((0, 0, 1), (0, 2, 0), (-3, 0, 0)), ((0, 0, 0), (1, 2, 3), (0, 0, 0)),
+    numbers_table(1, 2, 5, 3), numbers_table(2, 4, 2, 9), numbers_table(3, 3, 3, 10 ** 12 - 1),
+    numbers_table(4, 4, 4, 2), numbers_table(5, 5, 6, 10 ** 12 - 1), numbers_table(6, 5, 5, 9),
+    numbers_table(7, 5, 5, 1), summed_table(8, 5, 5, 9), summed_table(9, 4, 6, 99), summed_table(10, 3, 3, 10 ** 11),
+    gapped_table(11, 4, 5, 9), gapped_table(12, 5, 6, 1), gapped_table(13, 3, 4, 10 ** 12 - 1),
+]
+SQUARES = [table for table in MANY_TABLES if len(table) == len(table[0])]

@@ -1,0 +1,61 @@
+"""Stands of a table: their form, the first one, and the one behind a step."""
+
+from cornersteps.basics import is_pair, is_whole
+from cornersteps.errors import NoStep
+from cornersteps.orders import is_order
+from cornersteps.tables import is_table
+
+
+def rows_of(picked):
+    """The rows of the pairs, in their order."""
+    return tuple([pair[0] for pair in picked])
+
+
+def columns_of(picked):
+    """The columns of the pairs, in their order."""
+    return tuple([pair[1] for pair in picked])
+
+
+def is_picked(table, thing):
+    """Whether the thing is a tuple of pairs of the table, no row and no column in two of them."""
+    if not isinstance(thing, tuple) or not all([is_pair(pair) for pair in thing]):
+        return False
+    return is_order(len(table), rows_of(thing)) and is_order(len(table[0]), columns_of(thing))
+
+
+def is_form(table, thing):
+    """Whether the thing is of the FORM of a STAND of the table."""
+    if not isinstance(thing, tuple) or len(thing) != 3:
+        return False
+    picked, under, numbers = thing
+    if not is_picked(table, picked) or not is_whole(under) or not is_table(numbers):
+        return False
+    return len(numbers) == len(table) and len(numbers[0]) == len(table[0])
+
+
+def first_stand(table):
+    """The FIRST STAND of the table."""
+    return ((), 1, table)
+
+
+def stepped(stand, row, column):
+    """The STAND behind a step at the row and the column."""
+    picked, under, numbers = stand
+    new_under = numbers[row][column]
+    if row in rows_of(picked) or column in columns_of(picked) or new_under == 0:
+        raise NoStep(row, column)
+    behind = []
+    for i, line in enumerate(numbers):
+        if i == row:
+            behind.append(line)
+        else:
+            # Both products are corners multiplied crosswise, so the division comes out even (point 6).
+            behind.append(tuple([number // under for number in crosswise(line, numbers[row], column)]))
+    return (picked + ((row, column),), new_under, tuple(behind))
+
+
+def crosswise(line, picked_line, column):
+    """The picked row's number in the column times the line, less the line's there times the picked row."""
+    new_under = picked_line[column]
+    factor = line[column]
+    return [new_under * number - factor * other for number, other in zip(line, picked_line)]
