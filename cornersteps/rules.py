@@ -1,6 +1,7 @@
 """Rules that choose the next pair, and the steps by a rule."""
 
-from cornersteps.stands import columns_of, first_stand, rows_of, stepped
+from cornersteps.stands import columns_left, first_stand, rows_left, stepped
+from cornersteps.tables import beside
 
 RULES = ("first", "least", "most")
 
@@ -10,11 +11,9 @@ def is_rule(thing):
     return isinstance(thing, str) and thing in RULES
 
 
-def rows_left(stand, column):
+def rows_to_pick(stand, column):
     """The rows in no pair that have another number than 0 in the column, rising."""
-    picked_rows = rows_of(stand[0])
-    numbers = stand[2]
-    return [row for row in range(len(numbers)) if row not in picked_rows and numbers[row][column] != 0]
+    return [row for row in rows_left(stand) if stand[2][row][column] != 0]
 
 
 def row_by_rule(rows, sizes, rule):
@@ -27,13 +26,11 @@ def row_by_rule(rows, sizes, rule):
 
 def next_pair(stand, rule, wide):
     """The next pair by the rule, of the first so many columns, or None."""
-    picked_columns = columns_of(stand[0])
-    for column in range(wide):
-        if column not in picked_columns:
-            rows = rows_left(stand, column)
-            if len(rows) > 0:
-                sizes = [abs(stand[2][row][column]) for row in rows]
-                return (row_by_rule(rows, sizes, rule), column)
+    for column in columns_left(stand):
+        rows = rows_to_pick(stand, column)
+        if column < wide and len(rows) > 0:
+            sizes = [abs(stand[2][row][column]) for row in rows]
+            return (row_by_rule(rows, sizes, rule), column)
     return None
 
 
@@ -47,3 +44,8 @@ def steps(table, rule, wide):
         stands.append(stand)
         pair = next_pair(stand, rule, wide)
     return tuple(stands)
+
+
+def last_beside(table, other, rule):
+    """The last of the STEPS of the table with the other one beside it, of the table's own columns."""
+    return steps(beside(table, other), rule, len(table[0]))[-1]

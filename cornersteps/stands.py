@@ -2,7 +2,7 @@
 
 from cornersteps.basics import is_pair, is_whole
 from cornersteps.errors import NoStep
-from cornersteps.orders import is_order
+from cornersteps.orders import is_order, sign_of
 from cornersteps.tables import is_table
 
 
@@ -14,6 +14,23 @@ def rows_of(picked):
 def columns_of(picked):
     """The columns of the pairs, in their order."""
     return tuple([pair[1] for pair in picked])
+
+
+def sign_of_pairs(picked):
+    """The SIGN of the pairs' rows times the SIGN of their columns."""
+    return sign_of(rows_of(picked)) * sign_of(columns_of(picked))
+
+
+def rows_left(stand):
+    """The rows in no pair, rising."""
+    picked_rows = rows_of(stand[0])
+    return [row for row in range(len(stand[2])) if row not in picked_rows]
+
+
+def columns_left(stand):
+    """The columns in no pair, rising."""
+    picked_columns = columns_of(stand[0])
+    return [column for column in range(len(stand[2][0])) if column not in picked_columns]
 
 
 def is_picked(table, thing):

@@ -23,6 +23,11 @@ def has_noughts_alone(row):
     return all([number == 0 for number in row])
 
 
+def so_many_times(factor, row):
+    """The row with each number multiplied by the factor."""
+    return tuple([factor * number for number in row])
+
+
 def turned(table):
     """The table's columns as rows."""
     return tuple([tuple([row[j] for row in table]) for j in range(len(table[0]))])

@@ -1,6 +1,12 @@
 """What the tests share: things to ask, and slow definitions written apart from the package."""
 
+import copy
+import itertools
 import random
+
+from cornersteps.errors import CornerError, NoPaper
+
+RULES = ("first", "least", "most")
 
 # Things of all kinds that fit nothing, to be asked wherever "any thing" may be asked.
 ODD_THINGS = [
@@ -77,6 +83,100 @@ def just_tuples(thing):
     if type(thing) is tuple:
         return all(just_tuples(part) for part in thing)
     return type(thing) is int
+
+
+def just_told(thing):
+    """Whether the thing is made of tuples, whole numbers and texts alone, each of just that kind."""
+    if type(thing) is tuple:
+        return all(just_told(part) for part in thing)
+    return type(thing) in (int, str)
+
+
+def told_alike(ask, *things):
+    """What is told of the things; it is told alike again, and the things stay as they were."""
+    kept = copy.deepcopy(things)
+    told = ask(*things)
+    assert told == ask(*things) and kept == things and repr(kept) == repr(things)
+    return told
+
+
+def refusal_of(ask, *things):
+    """(word, place) of the NoPaper, of its class alone, with which the last of the things is refused, twice."""
+    kept = repr(things)
+    refusals = []
+    for _ in range(2):
+        try:
+            told = ask(*things)
+        except CornerError as error:
+            assert type(error) is NoPaper, error
+            assert type(error.word) is str and type(error.place) is int
+            refusals.append((error.word, error.place))
+        else:
+            raise AssertionError(f"told {told} of {things}")
+    assert refusals[0] == refusals[1] and kept == repr(things)
+    return refusals[0]
+
+
+def last_told(table, rule, wide):
+    """The last of the STEPS by the words of point 15, each stand from its own corners."""
+    stand = stand_told(table, ())
+    pair = pair_told(stand, rule, wide)
+    while pair is not None:
+        stand = stand_told(table, stand[0] + (pair,))
+        pair = pair_told(stand, rule, wide)
+    return stand
+
+
+def pair_told(stand, rule, wide):
+    """The next pair by the words of point 15, written apart from the package."""
+    picked, _, numbers = stand
+    for column in range(wide):
+        rows = [i for i in range(len(numbers)) if i not in [r for r, _ in picked] and numbers[i][column]]
+        if column in [c for _, c in picked] or not rows:
+            continue
+        keys = {"first": lambda i: i, "least": lambda i: (abs(numbers[i][column]), i),
+                "most": lambda i: (-abs(numbers[i][column]), i)}
+        return (sorted(rows, key=keys[rule])[0], column)
+    return None
+
+
+def whole_corner(table):
+    """The corner of a square table at all rows and columns."""
+    return determinant(table)
+
+
+def rank_told(table):
+    """The greatest k with some corner of k rows and columns that isn't 0, by all of them."""
+    for many in range(min(len(table), len(table[0])), 0, -1):
+        for rows in itertools.combinations(range(len(table)), many):
+            for columns in itertools.combinations(range(len(table[0])), many):
+                if corner_told(table, rows, columns) != 0:
+                    return many
+    return 0
+
+
+def lead_through(factors, table):
+    return tuple(sum(f * row[j] for f, row in zip(factors, table)) for j in range(len(table[0])))
+
+
+def lead_home(table, row):
+    return tuple(sum(a * b for a, b in zip(line, row)) for line in table)
+
+
+def turn(table):
+    return tuple(zip(*table))
+
+
+def put(thing, place, part):
+    """The tuple with another thing at the place."""
+    return thing[:place] + (part,) + thing[place + 1:]
+
+
+def put_deep(thing, places, part):
+    """The tuple with another thing at the place within it that the places lead to."""
+    if not places:
+        return part
+    return put(thing, places[0], put_deep(thing[places[0]], places[1:], part))
 
 
 def random_paper(table, seed, many):

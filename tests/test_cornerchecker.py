@@ -2,18 +2,15 @@ import copy
 import itertools
 import unittest
 
-from oracle import BIG, ODD_THINGS, SQUARES, corner_told, numbers_table, random_paper, stand_told, summed_table
+from oracle import (
+    BIG, ODD_THINGS, RULES, SQUARES, corner_told, numbers_table, random_paper, stand_told, summed_table, whole_corner,
+)
 from cornersteps.cornerchecker import lets_corner
 from cornersteps.errors import CornerError, NoPaper, NoStep
 from cornersteps.rules import steps
 from cornersteps.tables import exchanged, times, turned
 
-RULES = ("first", "least", "most")
 TABLE = ((1, 2, 3), (4, 5, 6), (7, 8, 10))
-
-
-def whole_corner(table):
-    return corner_told(table, range(len(table)), range(len(table)))
 
 
 class CornerCheckerTest(unittest.TestCase):

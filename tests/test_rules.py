@@ -1,24 +1,9 @@
 import copy
 import unittest
 
-from oracle import BIG, MANY_TABLES, ODD_THINGS, just_tuples, numbers_table, stand_told
+from oracle import BIG, MANY_TABLES, ODD_THINGS, RULES, just_tuples, numbers_table, pair_told, stand_told
 from cornersteps.rules import is_rule, next_pair, steps
 from cornersteps.stands import first_stand, stepped
-
-RULES = ("first", "least", "most")
-
-
-def pair_told(stand, rule, wide):
-    """The next pair by the words of point 15, written apart from the package."""
-    picked, _, numbers = stand
-    for column in range(wide):
-        rows = [i for i in range(len(numbers)) if i not in [r for r, _ in picked] and numbers[i][column]]
-        if column in [c for _, c in picked] or not rows:
-            continue
-        keys = {"first": lambda i: i, "least": lambda i: (abs(numbers[i][column]), i),
-                "most": lambda i: (-abs(numbers[i][column]), i)}
-        return (sorted(rows, key=keys[rule])[0], column)
-    return None
 
 
 class RulesTest(unittest.TestCase):

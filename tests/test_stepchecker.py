@@ -1,27 +1,14 @@
 import copy
 import unittest
 
-from oracle import BIG, MANY_TABLES, ODD_THINGS, numbers_table, random_paper, stand_told
+from oracle import BIG, MANY_TABLES, ODD_THINGS, RULES, numbers_table, put, put_deep, random_paper, stand_told
 from cornersteps.errors import CornerError, NoPaper, NoStep
 from cornersteps.rules import steps
 from cornersteps.stepchecker import lets_steps
 
-RULES = ("first", "least", "most")
 TABLE = ((1, 2, 3), (4, 5, 6), (7, 8, 10))
 PAIRS = ((1, 2), (0, 0), (2, 1))
 PAPER = tuple(stand_told(TABLE, PAIRS[:many]) for many in range(4))
-
-
-def put(thing, place, part):
-    """The tuple with another thing at the place."""
-    return thing[:place] + (part,) + thing[place + 1:]
-
-
-def put_deep(thing, places, part):
-    """The tuple with another thing at the place within it that the places lead to."""
-    if not places:
-        return part
-    return put(thing, places[0], put_deep(thing[places[0]], places[1:], part))
 
 
 class StepCheckerTest(unittest.TestCase):
