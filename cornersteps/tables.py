@@ -61,6 +61,11 @@ def exchanged(table, i, j):
     return tuple(rows)
 
 
+def with_row(table, place, row):
+    """The table with the row in the place of the one there."""
+    return table[:place] + (row,) + table[place + 1:]
+
+
 def led_through(row, table):
     """At each column the sum of the row's factors times the table's numbers there."""
     return led_home(turned(table), row)

@@ -145,6 +145,17 @@ def whole_corner(table):
     return determinant(table)
 
 
+def adjoined(table):
+    """In row j at column i the corner without row i and column j, signed."""
+    many = len(table)
+
+    def number(i, j):
+        rows = [row[:j] + row[j + 1:] for at, row in enumerate(table) if at != i]
+        return (-1) ** (i + j) * determinant(rows)
+
+    return tuple(tuple(number(i, j) for i in range(many)) for j in range(many))
+
+
 def rank_told(table):
     """The greatest k with some corner of k rows and columns that isn't 0, by all of them."""
     for many in range(min(len(table), len(table[0])), 0, -1):

@@ -1,8 +1,8 @@
 import unittest
 
 from oracle import (
-    BIG, ODD_THINGS, SQUARES, determinant, lead_through, numbers_table, put, put_deep, refusal_of, summed_table,
-    told_alike, turn,
+    BIG, ODD_THINGS, SQUARES, adjoined, determinant, lead_through, numbers_table, put, put_deep, refusal_of,
+    summed_table, told_alike, turn,
 )
 from cornersteps.backchecker import lets_back
 from cornersteps.tables import plain
@@ -10,17 +10,6 @@ from cornersteps.tables import plain
 GREAT = 10 ** 400 - 1
 TABLE = ((1, 2), (3, 4))
 BACK = ("back", ((4, -2), (-3, 1)), -2)
-
-
-def adjoined(table):
-    """In row j at column i the corner without row i and column j, signed."""
-    many = len(table)
-
-    def number(i, j):
-        rows = [row[:j] + row[j + 1:] for at, row in enumerate(table) if at != i]
-        return (-1) ** (i + j) * determinant(rows)
-
-    return tuple(tuple(number(i, j) for i in range(many)) for j in range(many))
 
 
 def back_of(table, factor):

@@ -1,6 +1,7 @@
 """The rules of LANGUAGE.md that can be seen row by row: sizes, characters, words, imports, names."""
 
 import ast
+import builtins
 import pathlib
 import re
 import unittest
@@ -10,6 +11,11 @@ FILES = sorted(PACKAGE.glob("*.py"))
 BARRED = re.compile(
     r"\b(type|typing|typing_extensions|enum|Enum|IntEnum|StrEnum|Flag|IntFlag|Generic|Protocol|ABC|ABCMeta"
     r"|namedtuple|NamedTuple|TypedDict|TYPE_CHECKING|abstractmethod)\b|dataclass|overload|contextmanager"
+)
+BUILTINS = set(
+    "len range enumerate zip min max sum abs sorted reversed int str bool bytes list tuple dict set frozenset isinstance"
+    " ord repr any all divmod super Exception ValueError TypeError KeyError IndexError LookupError ZeroDivisionError"
+    " ArithmeticError OverflowError RuntimeError NotImplementedError AttributeError StopIteration NotImplemented".split()
 )
 
 
@@ -45,6 +51,19 @@ class LanguageTest(unittest.TestCase):
                     there = ast.parse((PACKAGE.parent / (node.module.replace(".", "/") + ".py")).read_text())
                     defined = {part.name for part in there.body if isinstance(part, (ast.FunctionDef, ast.ClassDef))}
                     self.assertLessEqual({name.name for name in node.names}, defined, path)
+
+    def test_names_are_plain_and_take_no_other_meaning(self):
+        for path in FILES:
+            tree = ast.parse(path.read_text())
+            imported = {name.name for node in tree.body if isinstance(node, ast.ImportFrom) for name in node.names}
+            nodes = list(ast.walk(tree))
+            bound = {node.arg for node in nodes if isinstance(node, ast.arg)}
+            bound |= {node.id for node in nodes if isinstance(node, ast.Name) and isinstance(node.ctx, ast.Store)}
+            self.assertEqual(set(), bound & (imported | set(dir(builtins))), path)
+            self.assertEqual([], [name for name in bound if name.startswith("_")], path)
+            read = {node.id for node in nodes if isinstance(node, ast.Name) and isinstance(node.ctx, ast.Load)}
+            self.assertEqual(set(), (read & set(dir(builtins))) - BUILTINS, path)
+            self.assertEqual(set(), imported - read, path)
 
     def test_no_floats_and_no_percent_signs_in_texts(self):
         for path in FILES:
