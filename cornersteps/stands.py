@@ -3,7 +3,7 @@
 from cornersteps.basics import is_pair, is_whole
 from cornersteps.errors import NoStep
 from cornersteps.orders import is_order, sign_of
-from cornersteps.tables import is_table
+from cornersteps.tables import is_table_of
 
 
 def rows_of(picked):
@@ -42,10 +42,15 @@ def is_picked(table, thing):
 
 def is_form(table, thing):
     """Whether the thing is of the FORM of a STAND of the table."""
+    return is_form_of(is_whole, table, thing)
+
+
+def is_form_of(is_number, table, thing):
+    """Whether the thing is of the FORM of a STAND of the table, whose numbers are such to is_number."""
     if not isinstance(thing, tuple) or len(thing) != 3:
         return False
     picked, under, numbers = thing
-    if not is_picked(table, picked) or not is_whole(under) or not is_table(numbers):
+    if not is_picked(table, picked) or not is_number(under) or not is_table_of(is_number, numbers):
         return False
     return len(numbers) == len(table) and len(numbers[0]) == len(table[0])
 
@@ -57,18 +62,24 @@ def first_stand(table):
 
 def stepped(stand, row, column):
     """The STAND behind a step at the row and the column."""
+    return step_made(stand, row, column, 0, line_behind)
+
+
+def step_made(stand, row, column, nought, line_of):
+    """The stand behind a step; line_of makes each other row, of it, the picked row, the column and the under."""
     picked, under, numbers = stand
     new_under = numbers[row][column]
-    if row in rows_of(picked) or column in columns_of(picked) or new_under == 0:
+    if row in rows_of(picked) or column in columns_of(picked) or new_under == nought:
         raise NoStep(row, column)
-    behind = []
-    for i, line in enumerate(numbers):
-        if i == row:
-            behind.append(line)
-        else:
-            # Both products are corners multiplied crosswise, so the division comes out even (point 6).
-            behind.append(tuple([number // under for number in crosswise(line, numbers[row], column)]))
+    picked_line = numbers[row]
+    behind = [line if i == row else line_of(line, picked_line, column, under) for i, line in enumerate(numbers)]
     return (picked + ((row, column),), new_under, tuple(behind))
+
+
+def line_behind(line, picked_line, column, under):
+    """What a step at the picked row and the column puts in the place of another row."""
+    # Both products are corners multiplied crosswise, so the division comes out even (point 6).
+    return tuple([number // under for number in crosswise(line, picked_line, column)])
 
 
 def crosswise(line, picked_line, column):

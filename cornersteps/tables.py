@@ -5,17 +5,27 @@ from cornersteps.basics import is_whole
 
 def is_row(many, thing):
     """Whether the thing is a ROW of so many."""
-    return isinstance(thing, tuple) and len(thing) == many and all([is_whole(number) for number in thing])
+    return is_row_of(is_whole, many, thing)
 
 
 def is_table(thing):
     """Whether the thing is a TABLE."""
+    return is_table_of(is_whole, thing)
+
+
+def is_row_of(is_number, many, thing):
+    """Whether the thing is a tuple of so many, each one a number to is_number."""
+    return isinstance(thing, tuple) and len(thing) == many and all([is_number(number) for number in thing])
+
+
+def is_table_of(is_number, thing):
+    """Whether the thing is a tuple of one row or more, all of as many numbers to is_number, one or more."""
     if not isinstance(thing, tuple) or len(thing) == 0:
         return False
     first = thing[0]
     if not isinstance(first, tuple) or len(first) == 0:
         return False
-    return all([is_row(len(first), row) for row in thing])
+    return all([is_row_of(is_number, len(first), row) for row in thing])
 
 
 def has_noughts_alone(row):

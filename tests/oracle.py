@@ -52,21 +52,50 @@ def corner_told(table, rows, columns):
     return determinant([tuple(table[i][j] for j in columns) for i in rows])
 
 
-def stand_told(table, picked):
+def by_prime(prime):
+    """The corner of a table at rows and columns, what is left of it by the prime."""
+    return lambda table, rows, columns: corner_told(table, rows, columns) % prime
+
+
+def poly_sum(*polys):
+    """The polys added place by place, without noughts behind."""
+    summed = [sum(poly[k] for poly in polys if k < len(poly)) for k in range(max(map(len, polys), default=0))]
+    while summed and summed[-1] == 0:
+        summed.pop()
+    return tuple(summed)
+
+
+def poly_product(one, other):
+    """The sum of the one times each number of the other, so many places farther."""
+    return poly_sum((), *[(0,) * k + tuple(factor * number for number in one) for k, factor in enumerate(other)])
+
+
+def poly_corner_told(table, rows, columns):
+    """The corner of a table of polys, by its first row's polys, one column struck out at a time."""
+    if not rows:
+        return (1,)
+    parts = []
+    for j, column in enumerate(columns):
+        rest = poly_corner_told(table, rows[1:], columns[:j] + columns[j + 1:])
+        parts.append(poly_product(poly_product(((-1) ** j,), table[rows[0]][column]), rest))
+    return poly_sum(*parts)
+
+
+def stand_told(table, picked, corner_of=corner_told, nought=0):
     """The STAND of point 3, each number from its own corner."""
     rows = [pair[0] for pair in picked]
     columns = [pair[1] for pair in picked]
 
     def number_told(i, j):
         if i not in rows:
-            return 0 if j in columns else corner_told(table, rows + [i], columns + [j])
+            return nought if j in columns else corner_of(table, rows + [i], columns + [j])
         at = rows.index(i)
         if j in columns[:at] + columns[at + 1:]:
-            return 0
-        return corner_told(table, rows, columns[:at] + [j] + columns[at + 1:])
+            return nought
+        return corner_of(table, rows, columns[:at] + [j] + columns[at + 1:])
 
     numbers = tuple(tuple(number_told(i, j) for j in range(len(table[0]))) for i in range(len(table)))
-    return (tuple(picked), corner_told(table, rows, columns), numbers)
+    return (tuple(picked), corner_of(table, rows, columns), numbers)
 
 
 def picks_of(table, seed, many):
@@ -117,14 +146,19 @@ def refusal_of(ask, *things):
     return refusals[0]
 
 
-def last_told(table, rule, wide):
-    """The last of the STEPS by the words of point 15, each stand from its own corners."""
-    stand = stand_told(table, ())
-    pair = pair_told(stand, rule, wide)
+def steps_told(table, rule, wide, corner_of=corner_told, nought=0):
+    """The STEPS by the words of point 15, each stand from its own corners."""
+    stands = [stand_told(table, (), corner_of, nought)]
+    pair = pair_told(stands[-1], rule, wide)
     while pair is not None:
-        stand = stand_told(table, stand[0] + (pair,))
-        pair = pair_told(stand, rule, wide)
-    return stand
+        stands.append(stand_told(table, stands[-1][0] + (pair,), corner_of, nought))
+        pair = pair_told(stands[-1], rule, wide)
+    return tuple(stands)
+
+
+def last_told(table, rule, wide):
+    """The last of the STEPS."""
+    return steps_told(table, rule, wide)[-1]
 
 
 def pair_told(stand, rule, wide):
@@ -156,12 +190,12 @@ def adjoined(table):
     return tuple(tuple(number(i, j) for i in range(many)) for j in range(many))
 
 
-def rank_told(table):
+def rank_told(table, corner_of=corner_told):
     """The greatest k with some corner of k rows and columns that isn't 0, by all of them."""
     for many in range(min(len(table), len(table[0])), 0, -1):
         for rows in itertools.combinations(range(len(table)), many):
             for columns in itertools.combinations(range(len(table[0])), many):
-                if corner_told(table, rows, columns) != 0:
+                if corner_of(table, rows, columns):
                     return many
     return 0
 
@@ -190,22 +224,118 @@ def put_deep(thing, places, part):
     return put(thing, places[0], put_deep(thing[places[0]], places[1:], part))
 
 
-def random_paper(table, seed, many):
+def places_left(stand):
+    """The pairs at which a step can be made."""
+    picked, _, numbers = stand
+    return [
+        (i, j) for i, row in enumerate(numbers) for j, number in enumerate(row)
+        if i not in [r for r, _ in picked] and j not in [c for _, c in picked] and number
+    ]
+
+
+def random_paper(table, seed, many, corner_of=corner_told, nought=0):
     """A paper of at most so many steps at any pairs, each stand from its own corners, no step made."""
     chance = random.Random(seed * 7 + many)
-    stand = stand_told(table, ())
-    paper = [stand]
+    paper = [stand_told(table, (), corner_of, nought)]
     for _ in range(many):
-        picked, _, numbers = stand
-        left = [
-            (i, j) for i in range(len(table)) for j in range(len(table[0]))
-            if i not in [r for r, _ in picked] and j not in [c for _, c in picked] and numbers[i][j] != 0
-        ]
+        left = places_left(paper[-1])
         if not left:
             break
-        stand = stand_told(table, picked + (chance.choice(left),))
-        paper.append(stand)
+        paper.append(stand_told(table, paper[-1][0] + (chance.choice(left),), corner_of, nought))
     return tuple(paper)
+
+
+def misshapen_stands(stand, no_numbers):
+    """Near misses of the form of the stand; no_numbers are things that can't stand where numbers do."""
+    picked, under, numbers = stand
+    rows, columns = len(numbers), len(numbers[0])
+    yield from [
+        list(stand), (list(picked), under, numbers), (picked, under, list(numbers)), stand[:2], stand + (0,),
+        (under, picked, numbers), (picked, numbers, under), (picked, under, numbers + numbers[:1]),
+        (picked, under, numbers[:-1]), (picked, under, tuple(row + row[:1] for row in numbers)),
+        (picked, under, tuple(row[:-1] for row in numbers)), (picked, under, put(numbers, 0, list(numbers[0]))),
+        (picked, under, put(numbers, rows - 1, numbers[-1] + numbers[-1][:1])), (picked, under, ()),
+        (picked, under, {}), (None, under, numbers), (((0, 0), (0, 0)), under, numbers), (((0, 0, 0),), under, numbers),
+        (((0, columns),), under, numbers), (((rows, 0),), under, numbers), (((-1, 0),), under, numbers),
+        (((0, -1),), under, numbers), (((False, 0),), under, numbers), (((0, False),), under, numbers),
+        (([0, 0],), under, numbers), ((("0", 0),), under, numbers), ((0, 0), under, numbers),
+        (((0, 0), (rows, 1)), under, numbers),
+    ]
+    for odd in no_numbers:
+        yield (picked, odd, numbers)
+        for i, j in itertools.product(range(rows), range(columns)):
+            yield (picked, under, put_deep(numbers, (i, j), odd))
+
+
+def picks_amiss(paper, place):
+    """Pairs of the form that can't stand in the paper there."""
+    picked, _, numbers = paper[place]
+    rows, columns = len(numbers), len(numbers[0])
+    if place == 0:
+        yield ((0, 0),)
+        yield ((rows - 1, columns - 1),)
+        return
+    ahead = paper[place - 1]
+    yield from [ahead[0], (), picked[:-1]]
+    if place > 1:
+        yield from [picked[1:], picked[::-1], picked[-1:]]
+    left = [(i, j) for i in range(rows) for j in range(columns)
+            if i not in [r for r, _ in ahead[0]] and j not in [c for _, c in ahead[0]]]
+    for pair in left:
+        if not ahead[2][pair[0]][pair[1]]:
+            yield ahead[0] + (pair,)
+    more = [(i, j) for i, j in left if i != picked[-1][0] and j != picked[-1][1]]
+    for pair in more[:2]:
+        yield picked + (pair,)
+
+
+def papers_amiss(paper, others_of, no_numbers):
+    """(thing, (word, place)) of papers that are spoiled once; others_of tells other numbers than one that fit."""
+    for thing in ODD_THINGS:
+        if type(thing) is not tuple or thing == ():
+            yield (thing, ("shape", -1))
+        else:
+            yield (thing, ("shape", 0))
+    yield (list(paper), ("shape", -1))
+    yield (paper[0], ("shape", 0))
+    for place, (picked, under, numbers) in enumerate(paper):
+        for thing in ODD_THINGS + list(misshapen_stands(paper[place], no_numbers)):
+            yield (put(paper, place, thing), ("shape", place))
+        for amiss in picks_amiss(paper, place):
+            yield (put_deep(paper, (place, 0), amiss), ("pick", place))
+        for other in others_of(under):
+            yield (put_deep(paper, (place, 1), other), ("under", place))
+        for i, row in enumerate(numbers):
+            for j, number in enumerate(row):
+                for other in others_of(number):
+                    yield (put_deep(paper, (place, 2, i, j), other), ("numbers", place))
+        yield (paper[:place + 1] + paper[place:], ("pick", place + 1))
+        yield (paper + paper[place:place + 1], ("pick", len(paper)))
+        yield (paper + (None,), ("shape", len(paper)))
+        if place + 1 < len(paper):
+            yield (paper[:place] + paper[place + 1:], ("pick", place))
+
+
+def papers_amiss_twice(paper, others_of):
+    """(thing, (word, place)) of papers with two things amiss, the first of which is due."""
+    def spoiled(place):
+        picked, under, numbers = paper[place]
+        amiss = next(iter(picks_amiss(paper, place)))
+        other_under, other_number = others_of(under)[0], others_of(numbers[0][0])[0]
+        other_numbers = put_deep(numbers, (0, 0), other_number)
+        return [
+            ("shape", None), ("shape", [amiss, other_under, other_numbers]), ("shape", (amiss, other_under, ())),
+            ("pick", (amiss, other_under, other_numbers)), ("pick", (amiss, under, other_numbers)),
+            ("pick", (amiss, other_under, numbers)), ("under", (picked, other_under, other_numbers)),
+            ("numbers", (picked, under, other_numbers)),
+        ]
+
+    for place in range(len(paper)):
+        for word, thing in spoiled(place):
+            yield (put(paper, place, thing), (word, place))
+            for later in range(place + 1, len(paper)):
+                for _, other in spoiled(later):
+                    yield (put(put(paper, place, thing), later, other), (word, place))
 
 
 # Tables of all shapes: one row, one column, square, wide, tall, of noughts, with rows that are sums of others.
