@@ -81,6 +81,15 @@ def poly_corner_told(table, rows, columns):
     return poly_sum(*parts)
 
 
+def poly_table(seed, rows, columns, size):
+    """A table of polys of at most three numbers, the same one for the same arguments."""
+    chance = random.Random(seed * 1009 + rows * 17 + columns)
+    return tuple(
+        tuple(poly_sum(tuple(chance.randint(-size, size) for _ in range(chance.randint(0, 3)))) for _ in range(columns))
+        for _ in range(rows)
+    )
+
+
 def stand_told(table, picked, corner_of=corner_told, nought=0):
     """The STAND of point 3, each number from its own corner."""
     rows = [pair[0] for pair in picked]
@@ -349,3 +358,16 @@ MANY_TABLES = [
     gapped_table(11, 4, 5, 9), gapped_table(12, 5, 6, 1), gapped_table(13, 3, 4, 10 ** 12 - 1),
 ]
 SQUARES = [table for table in MANY_TABLES if len(table) == len(table[0])]
+
+# Tables of polys likewise; X is the poly that at each number has this number as its value.
+X = (0, 1)
+POLY_TABLES = [
+    (((),),), (((5,),),), ((X,),), (((), ()), ((), ())), (((), X, (1, 1)),), ((X,), ((),), ((-2, 1),)),
+    ((X, (1,)), ((1,), X)), ((X, (0, 2)), ((3,), (6,))), (((1, 1), (-1, 1)), ((-1, 1), (1, 1))),
+    (((), X), (X, ())), (((-999, 0, 999), (1,)), ((998, -1, 3), (0, 0, 7))),
+    (((0, 1), (1,), ()), ((1,), (0, 1), (1,)), ((), (1,), (0, 1))),
+    (((1,), (2,), (3,)), ((4,), (5,), (6,)), ((7,), (8,), (9,))),
+    (((), (), X), ((), (1, 1), ()), ((2,), (), ())),
+] + [poly_table(seed, rows, columns, size) for seed, (rows, columns, size) in enumerate([
+    (2, 2, 1), (2, 3, 3), (3, 2, 9), (3, 3, 2), (3, 4, 1), (4, 3, 5), (4, 4, 1), (4, 4, 999), (1, 4, 9), (4, 1, 9),
+])]

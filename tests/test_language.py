@@ -17,6 +17,11 @@ BUILTINS = set(
     " ord repr any all divmod super Exception ValueError TypeError KeyError IndexError LookupError ZeroDivisionError"
     " ArithmeticError OverflowError RuntimeError NotImplementedError AttributeError StopIteration NotImplemented".split()
 )
+METHODS = set(
+    "append clear copy count endswith extend find get index insert isalnum isalpha isdigit islower isspace isupper items"
+    " join keys ljust lower lstrip partition pop remove replace reverse rfind rjust rpartition rsplit rstrip setdefault"
+    " split splitlines startswith strip update upper values zfill bit_length".split()
+)
 
 
 class LanguageTest(unittest.TestCase):
@@ -72,6 +77,24 @@ class LanguageTest(unittest.TestCase):
                 if isinstance(node, ast.Constant):
                     self.assertNotIsInstance(node.value, (float, complex), path)
                     self.assertFalse(isinstance(node.value, str) and "%" in node.value, path)
+
+    def test_no_name_is_a_method_here_and_an_attribute_there(self):
+        nodes = [node for path in FILES for node in ast.walk(ast.parse(path.read_text()))]
+        classes = [node for node in nodes if isinstance(node, ast.ClassDef)]
+        methods = {part.name for node in classes for part in node.body if isinstance(part, ast.FunctionDef)}
+        attributes = [node for node in nodes if isinstance(node, ast.Attribute)]
+        assigned = {node.attr for node in attributes if isinstance(node.ctx, ast.Store)}
+        self.assertEqual(set(), methods & assigned)
+        self.assertEqual(set(), (methods | assigned) & (METHODS | {"args", "sort", "format", "encode", "decode", "hex"}))
+        called = {node.func.attr for node in nodes if isinstance(node, ast.Call) and isinstance(node.func, ast.Attribute)}
+        self.assertLessEqual(called, methods | METHODS)
+        self.assertLessEqual({node.attr for node in attributes} - called, assigned)
+
+    def test_is_stands_with_none_and_truths_alone(self):
+        for path in FILES:
+            for node in ast.walk(ast.parse(path.read_text())):
+                if isinstance(node, ast.Compare) and any(isinstance(op, (ast.Is, ast.IsNot)) for op in node.ops):
+                    self.assertIn(getattr(node.comparators[-1], "value", "none of these"), (None, True, False), path)
 
 
 if __name__ == "__main__":
